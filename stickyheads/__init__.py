@@ -1,0 +1,1 @@
+"""Stickyheads: outlines that scroll under their headings."""

@@ -1,0 +1,180 @@
+"""Errors: point 3, the errors of each function, and the rows of errors.py."""
+
+import itertools
+import unittest
+
+from stickyheads import errors
+from stickyheads.outlines import is_outline
+from stickyheads.views import scroll_to_show
+from tests import calls, plain
+
+WORD_ERRORS = (
+    "InvalidOutlineError", "InvalidLineError", "InvalidHeightError", "InvalidScrollError", "InvalidNumberError",
+    "InvalidReadingError", "InvalidFoldsError", "InvalidDocumentError", "InvalidTitleError", "InvalidDepthError",
+    "InvalidTextError", "HiddenLineError", "EndError", "TooManyLinesError", "EmptyOutlineError", "EmptyHistoryError",
+)
+ALL_ERRORS = (*WORD_ERRORS, "TooDeepError", "InvalidObservationsError")
+
+
+class ClassesTest(unittest.TestCase):
+    def test_base(self):
+        self.assertEqual(errors.StickyHeadsError.__bases__, (ValueError,))
+
+    def test_direct_subclasses(self):
+        self.assertEqual(len(set(ALL_ERRORS)), 18)
+        for name in ALL_ERRORS:
+            self.assertEqual(getattr(errors, name).__bases__, (errors.StickyHeadsError,), name)
+            self.assertEqual(getattr(errors, name).__name__, name)
+        self.assertEqual(len({getattr(errors, name) for name in ALL_ERRORS}), 18)
+
+    def test_every_error_class_is_a_direct_subclass(self):
+        for value in vars(errors).values():
+            if isinstance(value, type) and value != errors.StickyHeadsError:
+                self.assertEqual(value.__bases__, (errors.StickyHeadsError,))
+
+    def test_constructed_with_one_string(self):
+        for name in WORD_ERRORS:
+            with self.assertRaises(ValueError) as caught:
+                raise getattr(errors, name)("so it is")
+            self.assertIsInstance(caught.exception, errors.StickyHeadsError)
+
+    def test_line_of_too_deep_error(self):
+        for line in (0, 1, 7, 199, 10 ** 30):
+            self.assertEqual(errors.TooDeepError(line).line, line)
+            self.assertEqual(errors.TooDeepError(line=line).line, line)
+
+    def test_index_of_invalid_observations_error(self):
+        for index in (None, 0, 1, 39):
+            self.assertEqual(errors.InvalidObservationsError(index).index, index)
+            self.assertEqual(errors.InvalidObservationsError(index=index).index, index)
+
+    def test_attributes_are_of_the_object(self):
+        first, second = errors.TooDeepError(1), errors.TooDeepError(2)
+        self.assertEqual((first.line, second.line), (1, 2))
+        self.assertIn("line", vars(first))
+        self.assertIn("index", vars(errors.InvalidObservationsError(None)))
+
+
+class RaisedTest(unittest.TestCase):
+    def fails(self, function, arguments, kind):
+        """Check that the call raises this very class, and that it leaves its arguments alone."""
+        before = repr(arguments)
+        for positional in (True, False):
+            try:
+                function(*arguments.values()) if positional else function(**arguments)
+            except errors.StickyHeadsError as error:
+                self.assertIs(type(error), kind, (function.__name__, positional))
+                self.assertIsInstance(error, ValueError)
+                names = [name for name in ALL_ERRORS if isinstance(error, getattr(errors, name))]
+                self.assertEqual(names, [kind.__name__])
+            else:
+                self.fail((function.__name__, positional))
+        self.assertEqual(repr(arguments), before)
+
+    def test_each_wrong_value(self):
+        for function, parameters in calls.FUNCTIONS:
+            for name in parameters:
+                for wrong in calls.WRONG[name]:
+                    arguments = calls.right_arguments(parameters)
+                    arguments[name] = wrong
+                    with self.subTest(function=function.__name__, name=name, kind=type(wrong)):
+                        self.fails(function, arguments, calls.ERRORS[name])
+
+    def test_first_error_in_order(self):
+        few = {
+            "outline": ([], [0, True], None), "height": (0, 401, True), "scroll": (-1, 6, False),
+            "line": (-1, 7, True), "other": (-1, 7, None),
+        }
+        for function, parameters in calls.FUNCTIONS:
+            for many in range(2, len(parameters) + 1):
+                for names in itertools.combinations(parameters, many):
+                    for wrong in itertools.product(*[few[name] for name in names]):
+                        arguments = calls.right_arguments(parameters)
+                        arguments.update(zip(names, wrong))
+                        with self.subTest(function=function.__name__, wrong=dict(zip(names, wrong))):
+                            self.fails(function, arguments, calls.ERRORS[names[0]])
+
+    def test_just_outside_the_bounds(self):
+        outlines = [*plain.small_outlines(5), *plain.middle_outlines(), *plain.large_outlines()]
+        for outline in outlines:
+            for function, parameters in calls.FUNCTIONS:
+                bounds = calls.bounds(outline)
+                # Line 0 is shown at the scroll position 0, whatever the height.
+                right = {"outline": outline, "height": 1, "scroll": 0, "line": 0, "other": 0}
+                for name in parameters[1:]:
+                    least, greatest = bounds[name]
+                    for wrong in (least - 1, greatest + 1):
+                        arguments = {parameter: right[parameter] for parameter in parameters}
+                        arguments[name] = wrong
+                        self.fails(function, arguments, calls.ERRORS[name])
+
+    def test_just_within_the_bounds(self):
+        outlines = [*plain.small_outlines(5), *plain.middle_outlines(), *plain.large_outlines()]
+        for outline in outlines:
+            for function, parameters in calls.FUNCTIONS:
+                bounds = calls.bounds(outline)
+                values = [bounds[name] for name in parameters[1:]]
+                for chosen in itertools.product(*values):
+                    arguments = dict(zip(parameters[1:], chosen))
+                    deep = outline[arguments.get("line", 0)] >= arguments.get("height", 400)
+                    if function == scroll_to_show and deep:
+                        self.fails(function, {"outline": outline, **arguments}, errors.TooDeepError)
+                    else:
+                        function(outline, **arguments)
+
+    def test_the_number_of_lines_depends_on_the_outline(self):
+        # The greatest line and scroll position of one outline are wrong for a shorter one.
+        for function, parameters in calls.FUNCTIONS:
+            for name in parameters[1:]:
+                if name != "height":
+                    arguments = {**calls.right_arguments(parameters), name: 5}
+                    function(**arguments)
+                    arguments.update({each: 0 for each in ("scroll", "line", "other") if each in parameters})
+                    arguments.update({"outline": [0, 1, 0, 1, 0], name: 5})
+                    self.fails(function, arguments, calls.ERRORS[name])
+
+    def test_scroll_within_the_lines_but_beyond_the_last_stop(self):
+        outline = [0, 1, 2, 3]
+        for function, parameters in calls.FUNCTIONS:
+            if "scroll" in parameters:
+                for scroll in (1, 2, 3):
+                    arguments = {**calls.right_arguments(parameters), "outline": outline, "scroll": scroll}
+                    if "line" in arguments:
+                        arguments["line"] = 0
+                    self.fails(function, arguments, errors.InvalidScrollError)
+
+    def test_is_outline_raises_nothing(self):
+        for value in [*plain.NO_OUTLINES, *plain.NO_INTEGERS, *plain.NO_LINES]:
+            self.assertIn(is_outline(value), (True, False))
+
+
+class TooDeepTest(unittest.TestCase):
+    def test_line(self):
+        outline = [0, 1, 2, 2, 1, 0, 1]
+        for line, height in ((1, 1), (2, 1), (2, 2), (3, 2), (6, 1)):
+            for scroll in range(6):
+                with self.assertRaises(errors.TooDeepError) as caught:
+                    scroll_to_show(outline, height, scroll, line)
+                self.assertIs(type(caught.exception), errors.TooDeepError)
+                self.assertEqual(caught.exception.line, line)
+
+    def test_bound(self):
+        outline = plain.staircase(200)
+        for height in range(1, 200):
+            self.assertEqual(scroll_to_show(outline, height, 0, height - 1), 0)
+            with self.assertRaises(errors.TooDeepError) as caught:
+                scroll_to_show(outline, height, 0, height)
+            self.assertEqual(caught.exception.line, height)
+
+    def test_other_errors_come_first(self):
+        deep = {"outline": [0, 1, 2, 2], "height": 1, "scroll": 0, "line": 2}
+        wrong = {"outline": [0, 2, 1, 1], "height": 0, "scroll": 2, "line": 4}
+        for name, value in wrong.items():
+            with self.assertRaises(calls.ERRORS[name]):
+                scroll_to_show(**{**deep, name: value})
+        with self.assertRaises(errors.TooDeepError):
+            scroll_to_show(**deep)
+
+
+if __name__ == "__main__":
+    unittest.main()
