@@ -17,9 +17,14 @@ def check_height(height):
         raise InvalidHeightError("this is not a height")
 
 
+def greatest_scroll(outline):
+    """Return the greatest scroll position of an outline; nothing is checked."""
+    return stop_of(outline, len(outline) - 1)
+
+
 def check_scroll(outline, scroll):
     """Raise an error if the value is not a scroll position of the outline."""
-    if not is_integer_within(scroll, 0, stop_of(outline, len(outline) - 1)):
+    if not is_integer_within(scroll, 0, greatest_scroll(outline)):
         raise InvalidScrollError("this is not a scroll position")
 
 

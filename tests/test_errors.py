@@ -59,22 +59,18 @@ class RaisedTest(unittest.TestCase):
     def fails(self, function, arguments, kind):
         """Check that the call raises this very class, and that it leaves its arguments alone."""
         before = repr(arguments)
-        for positional in (True, False):
-            try:
-                function(*arguments.values()) if positional else function(**arguments)
-            except errors.StickyHeadsError as error:
-                self.assertIs(type(error), kind, (function.__name__, positional))
-                self.assertIsInstance(error, ValueError)
-                names = [name for name in ALL_ERRORS if isinstance(error, getattr(errors, name))]
-                self.assertEqual(names, [kind.__name__])
-            else:
-                self.fail((function.__name__, positional))
+        error = calls.error_of(function, arguments)
+        self.assertIs(type(error), kind, function.__name__)
+        self.assertIsInstance(error, errors.StickyHeadsError)
+        self.assertIsInstance(error, ValueError)
+        names = [name for name in ALL_ERRORS if isinstance(error, getattr(errors, name))]
+        self.assertEqual(names, [kind.__name__])
         self.assertEqual(repr(arguments), before)
 
     def test_each_wrong_value(self):
         for function, parameters in calls.FUNCTIONS:
-            for name in parameters:
-                for wrong in calls.WRONG[name]:
+            for name in calls.checked(parameters):
+                for wrong in calls.wrong_values(function, name):
                     arguments = calls.right_arguments(parameters)
                     arguments[name] = wrong
                     with self.subTest(function=function.__name__, name=name, kind=type(wrong)):
@@ -83,11 +79,13 @@ class RaisedTest(unittest.TestCase):
     def test_first_error_in_order(self):
         few = {
             "outline": ([], [0, True], None), "height": (0, 401, True), "scroll": (-1, 6, False),
-            "line": (-1, 7, True), "other": (-1, 7, None),
+            "line": (-1, 10 ** 30 + 1, True), "other": (-1, 10 ** 30 + 1, None), "pages": (0, True, "1"),
+            "index": (-1, 4, False), "scrolls": ([], [0, True, 3, 5], None), "folds": ([7], [1, 1], (1,)),
+            "number": (-1, 10 ** 30 + 1, True), "times": (0, 10 ** 30 + 1, True),
         }
         for function, parameters in calls.FUNCTIONS:
             for many in range(2, len(parameters) + 1):
-                for names in itertools.combinations(parameters, many):
+                for names in itertools.combinations(calls.checked(parameters), many):
                     for wrong in itertools.product(*[few[name] for name in names]):
                         arguments = calls.right_arguments(parameters)
                         arguments.update(zip(names, wrong))
@@ -97,7 +95,7 @@ class RaisedTest(unittest.TestCase):
     def test_just_outside_the_bounds(self):
         outlines = [*plain.small_outlines(5), *plain.middle_outlines(), *plain.large_outlines()]
         for outline in outlines:
-            for function, parameters in calls.FUNCTIONS:
+            for function, parameters in calls.VIEW_FUNCTIONS:
                 bounds = calls.bounds(outline)
                 # Line 0 is shown at the scroll position 0, whatever the height.
                 right = {"outline": outline, "height": 1, "scroll": 0, "line": 0, "other": 0}
@@ -111,7 +109,7 @@ class RaisedTest(unittest.TestCase):
     def test_just_within_the_bounds(self):
         outlines = [*plain.small_outlines(5), *plain.middle_outlines(), *plain.large_outlines()]
         for outline in outlines:
-            for function, parameters in calls.FUNCTIONS:
+            for function, parameters in calls.VIEW_FUNCTIONS:
                 bounds = calls.bounds(outline)
                 values = [bounds[name] for name in parameters[1:]]
                 for chosen in itertools.product(*values):
@@ -124,7 +122,7 @@ class RaisedTest(unittest.TestCase):
 
     def test_the_number_of_lines_depends_on_the_outline(self):
         # The greatest line and scroll position of one outline are wrong for a shorter one.
-        for function, parameters in calls.FUNCTIONS:
+        for function, parameters in calls.VIEW_FUNCTIONS:
             for name in parameters[1:]:
                 if name != "height":
                     arguments = {**calls.right_arguments(parameters), name: 5}
@@ -135,13 +133,44 @@ class RaisedTest(unittest.TestCase):
 
     def test_scroll_within_the_lines_but_beyond_the_last_stop(self):
         outline = [0, 1, 2, 3]
-        for function, parameters in calls.FUNCTIONS:
+        for function, parameters in calls.VIEW_FUNCTIONS:
             if "scroll" in parameters:
                 for scroll in (1, 2, 3):
                     arguments = {**calls.right_arguments(parameters), "outline": outline, "scroll": scroll}
                     if "line" in arguments:
                         arguments["line"] = 0
                     self.fails(function, arguments, errors.InvalidScrollError)
+
+    def test_pages_just_outside_the_bounds(self):
+        outlines = [*plain.small_outlines(5), *plain.middle_outlines(), *plain.large_outlines()]
+        for outline in outlines:
+            lines, many = len(outline), calls.readings.count_shortest(outline, 400)
+            outside = {
+                "height": (0, 401), "line": (-1, lines), "other": (-1, lines), "pages": (0, -1), "index": (-1, many),
+                "folds": ([-1], [lines], [0, lines]), "scrolls": ([], [1], [0, lines]), "number": (-1, 10 ** 30 + 1),
+                "times": (0, 10 ** 30 + 1),
+            }
+            right = {
+                "outline": outline, "height": 400, "line": lines - 1, "other": 0, "value": [0], "pages": 1,
+                "index": many - 1, "folds": [lines - 1], "scrolls": [0], "number": 10 ** 30, "times": 10 ** 30,
+            }
+            for function, parameters in calls.PAGE_FUNCTIONS:
+                arguments = {name: right[name] for name in parameters}
+                self.assertIs(calls.error_of(function, arguments), None, function.__name__)
+                for name in calls.checked(parameters)[1:]:
+                    endless = function in calls.ENDLESS and name in ("line", "other")
+                    for wrong in (-1, 10 ** 30 + 1) if endless else outside[name]:
+                        self.fails(function, {**arguments, name: wrong}, calls.ERRORS[name])
+                    if endless:
+                        self.assertIs(calls.error_of(function, {**arguments, name: 10 ** 30}), None)
+
+    def test_any_value_as_a_reading_or_a_witness_list(self):
+        for function in (calls.pages.is_reading, calls.pages.is_witness_list):
+            for wrong in (None, True, 0, "", [True], (0,), plain.Hostile()):
+                arguments = {"outline": list(plain.EXAMPLE), "height": 3, "value": wrong}
+                self.assertIs(function(**arguments), False)
+                self.fails(function, {**arguments, "height": 0}, errors.InvalidHeightError)
+                self.fails(function, {**arguments, "outline": [0, 2], "height": 0}, errors.InvalidOutlineError)
 
     def test_is_outline_raises_nothing(self):
         for value in [*plain.NO_OUTLINES, *plain.NO_INTEGERS, *plain.NO_LINES]:
@@ -157,6 +186,31 @@ class TooDeepTest(unittest.TestCase):
                     scroll_to_show(outline, height, scroll, line)
                 self.assertIs(type(caught.exception), errors.TooDeepError)
                 self.assertEqual(caught.exception.line, line)
+
+    def test_pages_that_cannot_be_read(self):
+        for function, later in calls.TOO_DEEP.items():
+            parameters = dict(calls.PAGE_FUNCTIONS)[function]
+            for height, line in ((2, 2), (1, 1)):
+                arguments = {**calls.right_arguments(parameters), "height": height}
+                if function == calls.pages.page_starts:
+                    arguments["line"] = 0
+                with self.subTest(function=function.__name__, height=height):
+                    error = calls.error_of(function, arguments)
+                    self.assertIs(type(error), errors.TooDeepError)
+                    self.assertEqual(error.line, line)
+                    for name in calls.checked(parameters):
+                        expected = errors.TooDeepError if name in later else calls.ERRORS[name]
+                        for wrong in calls.wrong_values(function, name):
+                            error = calls.error_of(function, {**arguments, name: wrong})
+                            self.assertIs(type(error), expected, name)
+
+    def test_functions_that_raise_it_not(self):
+        for function, parameters in calls.PAGE_FUNCTIONS:
+            if function not in calls.TOO_DEEP:
+                arguments = calls.right_arguments(parameters)
+                if "height" in arguments:
+                    arguments["height"] = 1
+                self.assertIs(calls.error_of(function, arguments), None, function.__name__)
 
     def test_bound(self):
         outline = plain.staircase(200)

@@ -24,6 +24,31 @@ FUNCTIONS = {
         "scrolls_for": ["outline", "height", "line"],
         "scrolls_for_both": ["outline", "height", "line", "other"],
     },
+    "pages": {
+        "page_starts": ["outline", "height", "line"],
+        "fewest_pages": ["outline", "height"],
+        "least_height": ["outline", "pages"],
+        "is_reading": ["outline", "height", "value"],
+        "is_witness_list": ["outline", "height", "value"],
+    },
+    "readings": {
+        "count_shortest": ["outline", "height"],
+        "rank_shortest": ["outline", "height", "scrolls"],
+        "nth_shortest": ["outline", "height", "index"],
+    },
+    "folds": {
+        "lines_left": ["outline", "folds"],
+        "folded_outline": ["outline", "folds"],
+        "fewest_folds": ["outline", "height", "line", "other"],
+        "folds_to_show": ["outline", "height", "line", "other"],
+    },
+    "repeats": {
+        "page_start": ["outline", "height", "line", "number"],
+        "pages_of_repeats": ["outline", "height", "times"],
+        "reading_rate": ["outline", "height"],
+        "cycle_lines": ["outline", "height"],
+        "first_meeting": ["outline", "height", "line", "other"],
+    },
 }
 
 CLASSES = {
