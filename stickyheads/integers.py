@@ -1,5 +1,7 @@
 """What counts as an integer, for all modules of the package."""
 
+from stickyheads.errors import InvalidNumberError
+
 
 def is_integer_from(value, least):
     """Return whether the value is an integer from `least` on."""
@@ -10,6 +12,12 @@ def is_integer_from(value, least):
 def is_integer_within(value, least, greatest):
     """Return whether the value is an integer from `least` to `greatest`."""
     return is_integer_from(value, least) and value <= greatest
+
+
+def check_number(value, least, greatest):
+    """Raise an error if the value is not a number from `least` to `greatest`."""
+    if not is_integer_within(value, least, greatest):
+        raise InvalidNumberError("this number is not within its bounds")
 
 
 def is_ascending_list(value, greatest):

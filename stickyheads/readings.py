@@ -6,8 +6,8 @@ stop of that line. No view of a shortest reading could be left out, so none of
 its views but the last one shows the last line.
 """
 
-from stickyheads.errors import InvalidNumberError, InvalidReadingError
-from stickyheads.integers import is_integer_within
+from stickyheads.errors import InvalidReadingError
+from stickyheads.integers import check_number
 from stickyheads.outlines import stop_of
 from stickyheads.pages import check_all_shown, is_reading
 from stickyheads.views import greatest_scroll
@@ -52,8 +52,7 @@ def nth_shortest(outline, height, index):
     check_all_shown(outline, height)
     left = count_views_left(outline, height)
     ways = count_ways(outline, height, left)
-    if not is_integer_within(index, 0, ways[0] - 1):
-        raise InvalidNumberError("this is not the index of a shortest reading")
+    check_number(index, 0, ways[0] - 1)
     reading = [0]
     smaller = index
     while left[reading[-1]] > 0:

@@ -7,8 +7,8 @@ outline begin the pages, a whole number of repetitions later.
 
 from math import gcd
 
-from stickyheads.errors import InvalidLineError, InvalidNumberError
-from stickyheads.integers import is_integer_within
+from stickyheads.errors import InvalidLineError
+from stickyheads.integers import check_number, is_integer_within
 from stickyheads.outlines import check_outline
 from stickyheads.pages import check_all_shown, check_depths
 from stickyheads.views import check_height
@@ -20,12 +20,6 @@ def check_endless_line(line):
     """Raise an error if the value is not the number of a line to begin with."""
     if not is_integer_within(line, 0, GREATEST):
         raise InvalidLineError("this is not a line of the repeated outline")
-
-
-def check_number(number, least):
-    """Raise an error if the value is not a number from `least` to the greatest one."""
-    if not is_integer_within(number, least, GREATEST):
-        raise InvalidNumberError("this number is not within its bounds")
 
 
 def next_start(outline, height, start):
@@ -75,7 +69,7 @@ def page_start(outline, height, line, number):
     check_outline(outline)
     check_height(height)
     check_endless_line(line)
-    check_number(number, 0)
+    check_number(number, 0, GREATEST)
     check_depths(outline, height, 0)
     return start_of_page(follow_pages(outline, height, line), number)
 
@@ -105,7 +99,7 @@ def pages_of_repeats(outline, height, times):
     """Return the fewest pages for so many repetitions of the outline."""
     check_outline(outline)
     check_height(height)
-    check_number(times, 1)
+    check_number(times, 1, GREATEST)
     check_depths(outline, height, 0)
     return count_pages_before(follow_pages(outline, height, 0), len(outline) * times)
 

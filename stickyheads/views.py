@@ -52,15 +52,20 @@ def pushed_headings(outline, top, scroll):
     return headings_of(outline, top - 1)[-many:]
 
 
+def find_rows(outline, height, scroll):
+    """Return the lines in the rows of the view; nothing is checked."""
+    top = find_top(outline, scroll)
+    above = headings_of(outline, top) + pushed_headings(outline, top, scroll)
+    rows = above + list(range(top, len(outline)))
+    return rows[:height]
+
+
 def view(outline, height, scroll):
     """Return the lines in the rows of the view."""
     check_outline(outline)
     check_height(height)
     check_scroll(outline, scroll)
-    top = find_top(outline, scroll)
-    above = headings_of(outline, top) + pushed_headings(outline, top, scroll)
-    rows = above + list(range(top, len(outline)))
-    return rows[:height]
+    return find_rows(outline, height, scroll)
 
 
 def shown_lines(outline, height, scroll):

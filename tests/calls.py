@@ -1,7 +1,7 @@
 """All functions of the package, and how to call them rightly and wrongly."""
 
-from stickyheads import errors, folds, outlines, pages, readings, repeats, views
-from tests import plain, plain_pages
+from stickyheads import counting, errors, folds, observations, outlines, pages, readings, repeats, text, viewer, views
+from tests import plain, plain_observations, plain_pages, plain_viewer
 
 # Each function with its parameters, in the order of the document, which is also the order of their errors.
 VIEW_FUNCTIONS = (
@@ -37,7 +37,22 @@ PAGE_FUNCTIONS = (
     (repeats.first_meeting, ("outline", "height", "line", "other")),
 )
 
-FUNCTIONS = VIEW_FUNCTIONS + PAGE_FUNCTIONS
+LATER_FUNCTIONS = (
+    (observations.fits, ("outline", "observations")),
+    (observations.depth_bounds, ("lines", "observations")),
+    (observations.conflict, ("lines", "observations")),
+    (observations.count_fitting, ("lines", "observations")),
+    (counting.count_outlines, ("lines", "deepest")),
+    (counting.nth_outline, ("lines", "deepest", "index")),
+    (counting.rank_outline, ("outline", "deepest")),
+    (text.format_document, ("document",)),
+    (text.parse_document, ("text",)),
+    (viewer.Viewer, ("document", "height")),
+)
+
+FUNCTIONS = VIEW_FUNCTIONS + PAGE_FUNCTIONS + LATER_FUNCTIONS
+
+OUTLINE_FUNCTIONS = tuple((function, parameters) for function, parameters in FUNCTIONS if parameters[0] == "outline")
 
 # For these functions TooDeepError comes before the errors of the parameters that are named here.
 TOO_DEEP = {
@@ -68,6 +83,11 @@ ERRORS = {
     "folds": errors.InvalidFoldsError,
     "number": errors.InvalidNumberError,
     "times": errors.InvalidNumberError,
+    "observations": errors.InvalidObservationsError,
+    "lines": errors.InvalidNumberError,
+    "deepest": errors.InvalidNumberError,
+    "document": errors.InvalidDocumentError,
+    "text": errors.InvalidTextError,
 }
 
 # For EXAMPLE, its height 3 and its four shortest readings.
@@ -86,6 +106,20 @@ WRONG = {
     "folds": ([7], [0, 7], [1, 8], [6, 7], [0, 1, 2, 3, 4, 5, 6, 7], *plain_pages.NO_ASCENDING_LISTS),
     "number": (-1, -2, 10 ** 30 + 1, 10 ** 30 + 2, -10 ** 30, [5], "5", 5.0, *plain.NO_INTEGERS),
     "times": (0, -1, 10 ** 30 + 1, 10 ** 30 + 2, -10 ** 30, [5], "5", 5.0, *plain.NO_INTEGERS),
+    "observations": tuple(value for value, _ in plain_observations.NO_OBSERVATIONS),
+    "lines": (0, -1, -7, 61, 62, 201, 10 ** 30, -10 ** 30, [7], "7", 7.0, *plain.NO_INTEGERS),
+    "deepest": (-1, -2, 201, 202, 10 ** 30, -10 ** 30, [3], "3", 3.0, *plain.NO_INTEGERS),
+    "document": plain_viewer.NO_DOCUMENTS,
+    "text": plain_viewer.NO_TEXTS,
+}
+
+# Where these bounds differ.
+WRONG_FOR = {
+    (counting.count_outlines, "lines"): (0, -1, -7, 201, 202, 10 ** 30, -10 ** 30, [7], *plain.NO_INTEGERS),
+    (counting.nth_outline, "lines"): (0, -1, -7, 201, 202, 10 ** 30, -10 ** 30, [7], *plain.NO_INTEGERS),
+    # There are 365 outlines of seven lines without depths greater than 3.
+    (counting.nth_outline, "index"): (-1, -2, -365, 365, 366, 10 ** 30, -10 ** 30, [2], "2", 2.0, *plain.NO_INTEGERS),
+    (counting.rank_outline, "deepest"): (1, 0, -1, 201, 202, 10 ** 30, -10 ** 30, [3], *plain.NO_INTEGERS),
 }
 
 NO_ENDLESS_LINES = (-1, -7, 10 ** 30 + 1, 10 ** 30 + 2, -10 ** 30, [4], "4", 4.0, *plain.NO_INTEGERS)
@@ -100,14 +134,15 @@ def wrong_values(function, name):
     """What must not be passed to a function, if the other arguments are right."""
     if function in ENDLESS and name in ("line", "other"):
         return NO_ENDLESS_LINES
-    return WRONG[name]
+    return WRONG_FOR.get((function, name), WRONG[name])
 
 
 def right_arguments(parameters):
     """Valid arguments for these parameters, by name."""
     right = {
         "outline": list(plain.EXAMPLE), "height": 3, "scroll": 2, "line": 4, "other": 1, "value": [0, 1, 3, 5],
-        "pages": 3, "index": 2, "scrolls": [0, 1, 2, 5], "folds": [1, 5], "number": 5, "times": 2,
+        "pages": 3, "index": 2, "scrolls": [0, 1, 2, 5], "folds": [1, 5], "number": 5, "times": 2, "lines": 7,
+        "observations": [(1, 3), (3, 4)], "deepest": 3, "document": list(plain_viewer.EXAMPLE), "text": "a\n  b\nc d",
     }
     return {name: right[name] for name in parameters}
 

@@ -6,7 +6,7 @@ import unittest
 from stickyheads import errors
 from stickyheads.outlines import is_outline
 from stickyheads.views import scroll_to_show
-from tests import calls, plain
+from tests import calls, plain, plain_observations, plain_viewer
 
 WORD_ERRORS = (
     "InvalidOutlineError", "InvalidLineError", "InvalidHeightError", "InvalidScrollError", "InvalidNumberError",
@@ -81,7 +81,9 @@ class RaisedTest(unittest.TestCase):
             "outline": ([], [0, True], None), "height": (0, 401, True), "scroll": (-1, 6, False),
             "line": (-1, 10 ** 30 + 1, True), "other": (-1, 10 ** 30 + 1, None), "pages": (0, True, "1"),
             "index": (-1, 4, False), "scrolls": ([], [0, True, 3, 5], None), "folds": ([7], [1, 1], (1,)),
-            "number": (-1, 10 ** 30 + 1, True), "times": (0, 10 ** 30 + 1, True),
+            "number": (-1, 10 ** 30 + 1, True), "times": (0, 10 ** 30 + 1, True), "lines": (0, 201, True),
+            "observations": ([(0, True)], [(0, 0)] * 41, None), "deepest": (-1, 201, True), "text": ("", None),
+            "document": ([], [(0, "")], [(True, "a")], None),
         }
         for function, parameters in calls.FUNCTIONS:
             for many in range(2, len(parameters) + 1):
@@ -163,6 +165,38 @@ class RaisedTest(unittest.TestCase):
                         self.fails(function, {**arguments, name: wrong}, calls.ERRORS[name])
                     if endless:
                         self.assertIs(calls.error_of(function, {**arguments, name: 10 ** 30}), None)
+
+    def test_later_functions_just_outside_the_bounds(self):
+        many = calls.counting.count_outlines(60, 200)
+        right = {
+            "outline": plain.staircase(200), "lines": 60, "observations": [(10 ** 30, 10 ** 30)] * 40, "deepest": 200,
+            "index": many - 1, "document": [(line, "x" * 20) for line in range(200)], "height": 400, "text": "a" * 20,
+        }
+        outside = {
+            "outline": (plain.staircase(201),), "lines": (0, 201), "deepest": (-1, 201), "index": (-1, many),
+            "observations": ([(0, 0)] * 41, [(0, 0)] * 39 + [(0, -1)]), "height": (0, 401), "text": ("a" * 21, "a\n"),
+            "document": ([(line, "x" * 20) for line in range(201)], [(0, "x" * 21)]),
+        }
+        for function, parameters in calls.LATER_FUNCTIONS:
+            arguments = {name: right[name] for name in parameters}
+            self.assertIs(calls.error_of(function, arguments), None, function.__name__)
+            for name in parameters:
+                for wrong in outside[name]:
+                    self.fails(function, {**arguments, name: wrong}, calls.ERRORS[name])
+        for function in (calls.observations.depth_bounds, calls.observations.conflict, calls.observations.count_fitting):
+            self.fails(function, {"lines": 61, "observations": []}, errors.InvalidNumberError)
+
+    def test_index_of_the_first_item_that_is_no_observation(self):
+        for function, parameters in calls.LATER_FUNCTIONS:
+            if "observations" in parameters:
+                for value, index in plain_observations.NO_OBSERVATIONS:
+                    arguments = {**calls.right_arguments(parameters), "observations": value}
+                    self.assertEqual(calls.error_of(function, arguments).index, index)
+
+    def test_any_value_as_a_document(self):
+        for value in plain_viewer.NO_DOCUMENTS:
+            self.assertIs(calls.text.is_document(value), False)
+            self.assertIs(calls.text.is_document(value=value), False)
 
     def test_any_value_as_a_reading_or_a_witness_list(self):
         for function in (calls.pages.is_reading, calls.pages.is_witness_list):

@@ -49,6 +49,22 @@ FUNCTIONS = {
         "cycle_lines": ["outline", "height"],
         "first_meeting": ["outline", "height", "line", "other"],
     },
+    "observations": {
+        "fits": ["outline", "observations"],
+        "depth_bounds": ["lines", "observations"],
+        "conflict": ["lines", "observations"],
+        "count_fitting": ["lines", "observations"],
+    },
+    "counting": {
+        "count_outlines": ["lines", "deepest"],
+        "rank_outline": ["outline", "deepest"],
+        "nth_outline": ["lines", "deepest", "index"],
+    },
+    "text": {
+        "is_document": ["value"],
+        "format_document": ["document"],
+        "parse_document": ["text"],
+    },
 }
 
 CLASSES = {
@@ -58,6 +74,14 @@ CLASSES = {
         "InvalidTitleError", "InvalidDepthError", "InvalidTextError", "HiddenLineError", "EndError",
         "TooManyLinesError", "EmptyOutlineError", "EmptyHistoryError", "TooDeepError", "InvalidObservationsError",
     ],
+    "viewer": ["Viewer"],
+}
+
+METHODS = {
+    "__init__": ["document", "height"], "scroll_to": ["scroll"], "page_down": [], "page_up": [], "reveal": ["line"],
+    "toggle": ["line"], "insert": ["line", "depth", "title"], "remove": ["line"], "indent": ["line"],
+    "outdent": ["line"], "undo": [], "redo": [], "view": [], "document": [], "folds": [], "scroll": [],
+    "duplicate": [], "__len__": [], "__eq__": ["other"],
 }
 
 
@@ -88,6 +112,17 @@ class InterfaceTest(unittest.TestCase):
             for name in classes:
                 self.assertIn(name, defined(PACKAGE / f"{file}.py"))
                 self.assertTrue(inspect.isclass(getattr(module, name)))
+
+    def test_methods(self):
+        viewer = importlib.import_module("stickyheads.viewer")
+        for name, parameters in METHODS.items():
+            # In the body of the class itself, not in a base class.
+            method = vars(viewer.Viewer)[name]
+            self.assertTrue(inspect.isfunction(method), name)
+            self.assertEqual(list(inspect.signature(method).parameters), ["self", *parameters])
+            for parameter in inspect.signature(method).parameters.values():
+                self.assertIs(parameter.kind, inspect.Parameter.POSITIONAL_OR_KEYWORD)
+                self.assertIs(parameter.default, inspect.Parameter.empty)
 
     def test_parameters_of_errors(self):
         errors = importlib.import_module("stickyheads.errors")

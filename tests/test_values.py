@@ -79,7 +79,7 @@ class ArgumentsTest(unittest.TestCase):
 
     def test_arguments_are_unchanged_by_errors(self):
         for depths in ([], [1], [0, 2], [0, True], [0, -1, "x"], [0] * 201):
-            for function, parameters in calls.FUNCTIONS:
+            for function, parameters in calls.OUTLINE_FUNCTIONS:
                 given = list(depths)
                 arguments = {**calls.right_arguments(parameters), "outline": given}
                 with self.assertRaises(InvalidOutlineError):
@@ -88,7 +88,7 @@ class ArgumentsTest(unittest.TestCase):
                 self.assertEqual(repr(given), repr(depths))
 
     def test_outline_is_unchanged_if_another_argument_is_wrong(self):
-        for function, parameters in calls.FUNCTIONS:
+        for function, parameters in calls.OUTLINE_FUNCTIONS:
             for name in calls.checked(parameters)[1:]:
                 for wrong in (-1, 10 ** 30 + 1, True, None, "1", [7], [1, True], (1, 2)):
                     if (name, wrong) == ("pages", 10 ** 30 + 1):
@@ -183,7 +183,7 @@ class ResultsTest(unittest.TestCase):
             kept = outline[line]
             outline[line] = wrong
             self.assertIs(is_outline(outline), False)
-            for function, parameters in calls.FUNCTIONS:
+            for function, parameters in calls.OUTLINE_FUNCTIONS:
                 arguments = {**calls.right_arguments(parameters), "outline": outline}
                 with self.assertRaises(InvalidOutlineError):
                     function(**arguments)
